@@ -1,0 +1,1 @@
+"""Groups of turnings, relations of compositions."""
