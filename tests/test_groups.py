@@ -1,6 +1,8 @@
 import unittest
 
-from tests.helper import MOST, all_turns, ask, ask_sized, do_turn, generated, group_of, orbit, size
+from tests.helper import (
+    MOST, all_rows, all_turns, ask, ask_sized, do_turn, generated, group_of, orbit, orbits, program, size,
+)
 
 
 def listed(row):
@@ -143,6 +145,57 @@ class OrbitTest(unittest.TestCase):
     def test_new_object(self):
         self.assertEqual(ask(orbit([], []), orbit([], [1, 1]), orbit([1], [0]), orbit([1], [])),
                          [[-5], [-5], [-2], [-5]])
+
+
+class OrbitsTest(unittest.TestCase):
+    def check(self, n, h, lists):
+        told = all_turns(n)
+        given = ask_sized(n, [orbits(numbers) for numbers in lists], h)
+        for numbers, answer in zip(lists, given):
+            members = group_of(n, numbers)
+            found = {frozenset(do_turn(told[number], row) for number in members) for row in all_rows(n, h)}
+            self.assertEqual(answer, [len(found)], (n, h, numbers))
+
+    def test_example(self):
+        self.assertEqual(ask(size(2, 1), orbits([5]))[1], [3])
+
+    def test_without_turns(self):
+        for n, h, rows in [(0, 0, 1), (0, 9, 1), (1, 0, 1), (1, 9, 19), (2, 5, 121), (3, 2, 125), (4, 1, 81)]:
+            self.assertEqual(ask_sized(n, [orbits([]), orbits([0]), orbits([0] * 20)], h), [[rows]] * 3)
+
+    def test_one_turn(self):
+        self.check(1, 9, [[0], [1]])
+        for h in range(6):
+            self.check(2, h, [[number] for number in range(8)])
+        for h in range(3):
+            self.check(3, h, [[number] for number in range(48)])
+        self.check(4, 0, [[number] for number in range(0, 384, 29)])
+        self.check(4, 1, [[number] for number in range(0, 384, 11)])
+
+    def test_several_turns(self):
+        self.check(2, 5, [[first, second] for first in range(8) for second in range(8)])
+        self.check(3, 2, [[8, 1], [47, 16], [5, 5, 5, 47], list(range(28, 48))])
+        self.check(4, 1, [[96, 144], [8, 2], [383, 15], [375, 200, 100], [number * 19 for number in range(20)]])
+
+    def test_the_whole_group(self):
+        # Of four places and numbers up to 1 without their sign: how many are 0.
+        self.assertEqual(ask(size(4, 1), orbits([96, 144, 1]))[1], [5])
+        # Places alone: how often there's -1, 0 and 1.
+        self.assertEqual(ask(size(4, 1), orbits([96, 144]))[1], [15])
+
+    def test_programs_are_not_asked(self):
+        given = ask(size(2, 1), orbits([5]), program(0, [1, 11]), program(1, [1, 17]), orbits([5]))
+        self.assertEqual((given[1], given[4]), ([3], [3]))
+
+    def test_no_such_turn(self):
+        for n in range(5):
+            calls = []
+            for wrong in (-1, len(all_turns(n)), MOST, -MOST):
+                calls += [orbits([wrong]), orbits([wrong, 0]), orbits([0] * 19 + [wrong])]
+            self.assertEqual(ask_sized(n, calls, 1), [[-2]] * 12, n)
+
+    def test_new_object(self):
+        self.assertEqual(ask(orbits([]), orbits([0]), orbits([1])), [[1], [1], [-2]])
 
 
 if __name__ == "__main__":

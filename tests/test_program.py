@@ -4,7 +4,7 @@ from turngroups.programs import answer_program, answer_size
 from turngroups.reader import Reader
 from turngroups.setting import Setting
 
-from tests.helper import MOST, ask, program, size
+from tests.helper import MOST, alike, ask, group, kept, partner, program, relation, size
 
 # By the step's number: the least and the greatest number that may stand behind it, or None.
 BOUNDS = {
@@ -106,7 +106,7 @@ class ProgramTest(unittest.TestCase):
 
 
 class HeldTest(unittest.TestCase):
-    """What the object holds: no call of those that there are tells the programs."""
+    """What the object itself holds."""
 
     def test_new(self):
         setting = Setting()
@@ -150,6 +150,34 @@ class HeldTest(unittest.TestCase):
         self.assertEqual(list(setting.programs), [(), ((4, 0),)])
         tell(setting, program(0, [1, 3]))
         self.assertEqual((setting.places, setting.height), (2, 1))
+
+
+class FromNowOnTest(unittest.TestCase):
+    """What the object holds, by the answers of the calls that run the programs."""
+
+    # At all rows with the other sign: the sum has the other sign then, without its sign a number stays.
+    NUMBERS = relation((0,), [1, 1, -1])
+
+    def test_it_is_this_program_from_now_on(self):
+        first, second, both = kept(0, self.NUMBERS), kept(1, self.NUMBERS), kept(2, self.NUMBERS)
+        given = ask(size(2, 1), first, program(0, [1, 11]), first, second, program(1, [1, 3]), first, second, both,
+                    program(0, [0]), first, second, both)
+        self.assertEqual(given, [[9, 8], [1, 8, 0], [1], [3, 6, 0], [1, 8, 0], [1], [3, 6, 0], [9, 0, 0], [9, 0, 0],
+                                 [0], [1, 8, 0], [9, 0, 0], [9, 0, 0]])
+
+    def test_a_refused_program_changes_nothing(self):
+        for which, numbers, refusal in [
+            (0, [], -1), (0, [2, 5], -1), (1, [1, 5, 5], -1), (1, [1, 2, 0], -1), (2, [1, 5], -2), (-1, [1, 5], -2),
+            (-2, [1, 5], -2), (0, [9] + [3] * 9, -1),
+        ]:
+            with self.subTest(which=which, numbers=numbers):
+                given = ask(size(2, 1), program(0, [1, 11]), program(1, [1, 3]), program(which, numbers),
+                            kept(0, self.NUMBERS), kept(1, self.NUMBERS), group(), alike(4), partner(3))
+                self.assertEqual(given[3:], [[refusal], [3, 6, 0], [9, 0, 0], [2, 0, 4], [1], [1, 1, 1]])
+
+    def test_another_size_leaves_the_programs(self):
+        given = ask(program(0, [1, 11]), size(1, 9), kept(0, self.NUMBERS), size(2, 1), group(), size(4, 9), group())
+        self.assertEqual(given[1:], [[19, 2], [1, 18, 0], [9, 8], [2, 0, 4], [-7], [2, 0, 4]])
 
 
 if __name__ == "__main__":

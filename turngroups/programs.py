@@ -4,11 +4,13 @@ Each answer_.. takes what its call hands over from the reader, and gives back wh
 refusal is its number alone.
 """
 
+from turngroups.likeness import common_length, first_partner, first_unlike, outcomes_at
 from turngroups.reader import NotWhole, Reader
-from turngroups.rows import row_count, whole_row
+from turngroups.relations import are_chained, chained, relation_numbers, state_at, whole_relation
+from turngroups.rows import row_count, rows_of_size, whole_row
 from turngroups.setting import Setting
 from turngroups.steps import whole_program
-from turngroups.turns import idle_turn, is_turn, number_of, reached, signs_of, sources_of
+from turngroups.turns import idle_turn, is_turn, number_of, orbit_count, reached, signs_of, sources_of
 from turngroups.turns import turn_count, turn_of, turned, undone
 
 
@@ -18,6 +20,14 @@ def are_turns(setting, numbers):
 
 def turns_of(setting, numbers):
     return [turn_of(setting.places, number) for number in numbers]
+
+
+def size_rows(setting):
+    return rows_of_size(setting.places, setting.height)
+
+
+def first_outcomes(setting):
+    return outcomes_at(setting.programs[0], size_rows(setting))
 
 
 def answer_size(setting, reader):
@@ -93,6 +103,73 @@ def answer_orbit(setting, reader):
     return answer
 
 
+def answer_orbits(setting, reader):
+    numbers = reader.taken_counted()
+    if not are_turns(setting, numbers):
+        return [-2]
+    return [orbit_count(turns_of(setting, numbers), size_rows(setting))]
+
+
+def answer_alike(setting, reader):
+    number = reader.taken()
+    if not is_turn(setting.places, number):
+        return [-2]
+    unlike = first_unlike(turn_of(setting.places, number), first_outcomes(setting))
+    return [1] if unlike is None else [0, unlike]
+
+
+def answer_group(setting, reader):
+    outcomes = first_outcomes(setting)
+    group = []
+    for number in range(turn_count(setting.places)):
+        if first_unlike(turn_of(setting.places, number), outcomes) is None:
+            group.append(number)
+    return [len(group)] + group
+
+
+def answer_partner(setting, reader):
+    number = reader.taken()
+    if not is_turn(setting.places, number):
+        return [-2]
+    outcomes = first_outcomes(setting)
+    length = common_length(outcomes)
+    if length is None:
+        return [0]
+    partner = first_partner(turn_of(setting.places, number), outcomes, length)
+    return [0] if partner is None else [1, length, partner]
+
+
+def answer_chain(setting, reader):
+    first_numbers = reader.taken_counted()
+    second_numbers = reader.taken_counted()
+    try:
+        first = whole_relation(first_numbers)
+        second = whole_relation(second_numbers)
+    except NotWhole:
+        return [-5]
+    if not are_chained(first, second):
+        return [0]
+    return [1] + relation_numbers(chained(first, second))
+
+
+def answer_kept(setting, reader):
+    which = reader.taken()
+    numbers = reader.taken_counted()
+    if which < 0 or which > 2:
+        return [-2]
+    try:
+        relation = whole_relation(numbers)
+    except NotWhole:
+        return [-5]
+    program = setting.programs[0] + setting.programs[1] if which == 2 else setting.programs[which]
+    # At how many rows it is so, by KEPT, BROKEN and OFF.
+    counts = [0, 0, 0]
+    for row in size_rows(setting):
+        state = state_at(relation, program, row)
+        counts[state] = counts[state] + 1
+    return counts
+
+
 # By a call's number.
 CALLS = (
     answer_size,
@@ -102,6 +179,12 @@ CALLS = (
     answer_back,
     answer_generated,
     answer_orbit,
+    answer_orbits,
+    answer_alike,
+    answer_group,
+    answer_partner,
+    answer_chain,
+    answer_kept,
 )
 
 

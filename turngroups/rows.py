@@ -10,6 +10,17 @@ def row_count(places, height):
     return count
 
 
+# In the order of their numbers.
+def rows_of_size(places, height):
+    rows = [()]
+    for place in range(places):
+        longer = []
+        for row in rows:
+            longer.extend([row + (number,) for number in range(-height, height + 1)])
+        rows = longer
+    return rows
+
+
 def whole_row(numbers, places):
     reader = Reader(numbers)
     # No size has more than 4 places, so a row's own bound of 8 numbers is kept by this, too.

@@ -57,3 +57,12 @@ def whole_program(numbers):
     program = taken_program(reader)
     reader.must_end()
     return program
+
+
+def program_numbers(program):
+    numbers = [len(program)]
+    for kind, amount in program:
+        numbers.append(kind)
+        if STEP_LETTERS[kind] != "":
+            numbers.append(amount)
+    return numbers

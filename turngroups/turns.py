@@ -88,3 +88,15 @@ def reached(turns, row):
                 found.append(other)
         looked = looked + 1
     return found
+
+
+# How many orbits the rows have by the group that the turns generate.
+def orbit_count(turns, rows):
+    count = 0
+    seen = {}
+    for row in rows:
+        if row not in seen:
+            count = count + 1
+            for member in reached(turns, row):
+                seen[member] = True
+    return count
